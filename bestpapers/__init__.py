@@ -1,0 +1,1 @@
+"""Bestpapers: an exact optimiser whose every answer comes with a paper."""
