@@ -4,6 +4,19 @@ from bestpapers.checks import check_count, check_width
 from bestpapers.errors import NoName, SameName, TooWide
 
 
+def place_of(things, name):
+    """Return the index of the variable or the row of this name among others."""
+    for at, thing in enumerate(things):
+        if thing.name == name:
+            return at
+    raise NoName(name)
+
+
+def has_whole(problem, at):
+    """Tell whether an index is that of a whole variable."""
+    return 0 <= at and at < problem.n and problem.variables[at].whole
+
+
 def spread_of(variables):
     """Return the sum of high - low over the whole variables, an integer."""
     total = 0

@@ -52,3 +52,12 @@ def sample():
         ],
         [Aim("min", [1, 1, 1], 4), Aim("max", (Frac(1, 2), 0, -2))],
     )
+
+
+def picture(problem):
+    """Everything that a problem holds, as plain values."""
+    return (
+        [(v.name, v.low, v.high, v.whole, v.pull) for v in problem.variables],
+        [(r.name, r.coefficients, r.sense, r.right) for r in problem.rows],
+        [(a.sense, a.coefficients, a.constant) for a in problem.aims],
+    )

@@ -14,7 +14,7 @@ def operators(*names):
     return [f"__{name}__" for name in names]
 
 
-# Module, class, its parameters, and what must stand in the class itself.
+# Module, class, its parameters (None: free), and what must stand in the class itself.
 CLASSES = (
     ("fracs", "Frac", "(num=0, den=1)",
      ["MOST_FIGURES", "read", "over", "floor", "ceiling", "is_whole"]
@@ -28,6 +28,8 @@ CLASSES = (
     ("problems", "Problem", "(variables, rows=(), aims=())",
      ["MOST_VARIABLES", "MOST_ROWS", "MOST_AIMS", "MOST_SPREAD", "MOST_ASSIGNMENTS",
       "spread", "assignments"] + operators("contains", "getitem", "iter")),
+    ("nodes", "Node", "(problem)", ["half", "derived", "row_of", "box_of", "admits", "floor"]),
+    ("answers", "Answer", None, ["told", "best", "empty", "endless"]),
 )
 FUNCTIONS = (
     ("itemrows", "item_row", "(problem, at)"),
@@ -37,6 +39,31 @@ FUNCTIONS = (
     ("points", "broken", "(problem, point)"),
     ("points", "is_feasible", "(problem, point)"),
     ("points", "aim_values", "(problem, point)"),
+    ("stages", "stage_rows", "(problem)"),
+    ("stages", "stage_constants", "(problem)"),
+    ("stages", "stage_vector", "(problem, point)"),
+    ("stages", "compare", "(problem, left, right)"),
+    ("changes", "with_rows", "(problem, *rows)"),
+    ("changes", "without_row", "(problem, name)"),
+    ("changes", "with_right", "(problem, name, right)"),
+    ("changes", "with_coefficient", "(problem, name, variable, number)"),
+    ("changes", "with_ends", "(problem, name, low, high)"),
+    ("changes", "with_whole", "(problem, name, whole)"),
+    ("changes", "with_pull", "(problem, name, pull)"),
+    ("changes", "with_aims", "(problem, aims)"),
+    ("changes", "first_aims", "(problem, many)"),
+    ("changes", "relaxed", "(problem)"),
+    ("joining", "beside", "(left, right)"),
+    ("joining", "scaled", "(problem, name, factor)"),
+    ("joining", "reordered", "(problem, order)"),
+    ("writing", "problem_text", "(problem)"),
+    ("reading", "read_problem", "(text)"),
+    ("paperforms", "fits", "(problem, paper)"),
+    ("paperforms", "paper_nodes", "(paper)"),
+    ("paperforms", "paper_counts", "(paper)"),
+    ("paperforms", "paper_depth", "(paper)"),
+    ("judging", "shows", "(problem, targets, paper)"),
+    ("judges", "judge", "(problem, answer)"),
 )
 METHODS = (
     ("fracs", "Frac", "over", "(self, other)"),
@@ -50,10 +77,23 @@ METHODS = (
     ("rows", "Sum", "amount", "(self, point)"),
     ("rows", "Aim", "amount", "(self, point)"),
     ("rows", "Row", "__call__", "(self, point)"),
+    ("nodes", "Node", "half", "(self, variable, k, side)"),
+    ("nodes", "Node", "derived", "(self, coefficients, right)"),
+    ("nodes", "Node", "row_of", "(self, at)"),
+    ("nodes", "Node", "box_of", "(self, at)"),
+    ("nodes", "Node", "admits", "(self, point)"),
+    ("nodes", "Node", "floor", "(self, row, constant, prices)"),
+    ("answers", "Answer", "told", "(totals, point, paper)"),
+    ("answers", "Answer", "best", "(totals, point, paper)"),
+    ("answers", "Answer", "empty", "(paper)"),
+    ("answers", "Answer", "endless", "(at, totals, point, ray, paper)"),
 )
-STATIC = (("fracs", "Frac", "read"), ("tall", "Tall", "plain"), ("tall", "Tall", "far"))
+STATIC = (("fracs", "Frac", "read"), ("tall", "Tall", "plain"), ("tall", "Tall", "far"),
+          ("answers", "Answer", "told"), ("answers", "Answer", "best"),
+          ("answers", "Answer", "empty"), ("answers", "Answer", "endless"))
 PROPERTIES = (("fracs", "Frac", "is_whole"), ("problems", "Problem", "spread"),
               ("problems", "Problem", "assignments"))
+GENERATORS = (("paperforms", "paper_nodes"),)
 
 
 def found(module, name):
@@ -65,7 +105,8 @@ class Interface(unittest.TestCase):
         for module, name, parameters, inside in CLASSES:
             kind = found(module, name)
             self.assertEqual(kind.__module__, "bestpapers." + module)
-            self.assertEqual(str(inspect.signature(kind)), parameters)
+            if parameters is not None:
+                self.assertEqual(str(inspect.signature(kind)), parameters)
             for part in inside:
                 self.assertIn(part, vars(kind), (name, part))
 
@@ -87,6 +128,10 @@ class Interface(unittest.TestCase):
     def test_properties(self):
         for module, kind, name in PROPERTIES:
             self.assertIsInstance(vars(found(module, kind))[name], property)
+
+    def test_generators(self):
+        for module, name in GENERATORS:
+            self.assertTrue(inspect.isgeneratorfunction(found(module, name)))
 
 
 if __name__ == "__main__":

@@ -293,6 +293,25 @@ class Language(unittest.TestCase):
                 if isinstance(node, ast.Attribute) and node.attr not in own | METHODS:
                     self.refuse("L18 or L25", path, node.lineno, node.attr)
 
+    def test_names_of_properties_and_static_methods(self):
+        plain, marked = [], []
+        for path in source_files():
+            for method in methods_of(parsed(path)):
+                (marked if method.decorator_list else plain).append(method.name)
+        for name in set(marked) & (set(plain) | assigned_attributes() | METHODS):
+            self.refuse("L5 Properties or L5 Static", PACKAGE, 0, name)
+
+    def test_generators(self):
+        for path in source_files():
+            for function in functions_of(parsed(path)):
+                nodes = list(ast.walk(function))
+                if any(isinstance(node, (ast.Yield, ast.YieldFrom)) for node in nodes):
+                    for node in nodes:
+                        if isinstance(node, (ast.Try, ast.With)) or (
+                            isinstance(node, ast.Return) and node.value is not None
+                        ):
+                            self.refuse("L23", path, node.lineno)
+
     def test_words(self):
         for path in source_files():
             docstrings = set()
