@@ -35,7 +35,8 @@ def floor_by(node, row, constant, prices):
     total = as_frac(constant)
     for (coefficients, sense, right), price in zip(priced_rows(node.problem, node.extra), prices):
         if price:
-            if is_wrong_price(price, sense):
+            # A derived row may have lost its right side in another problem.
+            if right is None or is_wrong_price(price, sense):
                 return None
             rest = reduced(rest, price, coefficients)
             total = total + price * right

@@ -65,7 +65,15 @@ def shows_row(node, coefficients, right, reason):
     return reaches(low, right) and reaches(high, right)
 
 
-def is_accepted(node, targets, stages, paper):
+def is_listed(node, points, index):
+    """Tell whether the boxes of a node are the point with an index alone."""
+    if index < 0 or index >= len(points):
+        return False
+    pairs = zip(node.boxes, points[index])
+    return all([low == high and low == number for (low, high), number in pairs])
+
+
+def is_accepted(node, targets, stages, points, paper):
     """Tell whether a paper is accepted in a node, apart from the papers inside it."""
     if paper[0] == "empty":
         return shows_empty(node, paper[1])
@@ -75,7 +83,7 @@ def is_accepted(node, targets, stages, paper):
         return can_split(node, paper[1], paper[2])
     if paper[0] == "derive":
         return shows_row(node, paper[1], paper[2], paper[3])
-    return False
+    return is_listed(node, points, paper[1])
 
 
 def nodes_inside(node, paper):
@@ -89,17 +97,22 @@ def nodes_inside(node, paper):
     return []
 
 
-def shows(problem, targets, paper):
-    """Tell whether a paper shows that no feasible point comes before targets."""
-    if targets is not None:
-        check_count("targets", len(targets), 0, len(problem.aims) + problem.n)
+def accepts(problem, targets, points, paper):
+    """Tell whether a paper fits and is accepted, with points that it may list."""
     if not fits(problem, paper):
         return False
     stages = list(zip(stage_rows(problem), stage_constants(problem)))
     waiting = [(Node(problem), paper)]
     while waiting:
         node, part = waiting.pop()
-        if not is_accepted(node, targets, stages, part):
+        if not is_accepted(node, targets, stages, points, part):
             return False
         waiting.extend(nodes_inside(node, part))
     return True
+
+
+def shows(problem, targets, paper):
+    """Tell whether a paper shows that no feasible point comes before targets."""
+    if targets is not None:
+        check_count("targets", len(targets), 0, len(problem.aims) + problem.n)
+    return accepts(problem, targets, (), paper)

@@ -3,6 +3,7 @@
 import unittest
 
 from bestpapers.answers import Answer
+from bestpapers.changes import with_right
 from bestpapers.errors import BadNumber
 from bestpapers.fracs import Frac
 from bestpapers.judges import judge
@@ -11,6 +12,7 @@ from bestpapers.problems import Problem
 from bestpapers.rows import Aim, Row
 from bestpapers.tall import Tall
 from bestpapers.variables import Variable
+from bestpapers.worths import worth
 from tests.helpers import fault
 
 
@@ -37,6 +39,11 @@ class Examples(unittest.TestCase):
         node = Node(p)
         found = [str(node.floor([1, 1], 0, [1])), node.floor([1, 1], 0, [-1]), str(node.floor([1, 1], 0, [0]))]
         self.assertEqual(found, ["2", None, "0"])
+
+    def test_worths(self):
+        p = Problem([Variable("x", 0, 3), Variable("y", 0, 3)], [Row("r", [1, 1], ">=", 2)], [Aim("min", [1, 1])])
+        paper = ("floors", (((), (1,)),))
+        self.assertEqual([str(worth(p, paper)), str(worth(with_right(p, "r", 3), paper))], ["2", "3"])
 
 
 if __name__ == "__main__":

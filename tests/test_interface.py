@@ -30,6 +30,11 @@ CLASSES = (
       "spread", "assignments"] + operators("contains", "getitem", "iter")),
     ("nodes", "Node", "(problem)", ["half", "derived", "row_of", "box_of", "admits", "floor"]),
     ("answers", "Answer", None, ["told", "best", "empty", "endless"]),
+    ("listings", "Listing", "(points, complete, paper)", []),
+    ("factors", "Factors", "(rows)", ["solve_row", "solve_column", "replaced", "determinant"]),
+    ("tables", "Table", "(node, chosen)",
+     ["coordinates", "entry", "stage_entry", "column", "side", "end", "corner", "value", "vector",
+      "outside", "helpers", "best_helper", "exchanged"]),
 )
 FUNCTIONS = (
     ("itemrows", "item_row", "(problem, at)"),
@@ -64,6 +69,18 @@ FUNCTIONS = (
     ("paperforms", "paper_depth", "(paper)"),
     ("judging", "shows", "(problem, targets, paper)"),
     ("judges", "judge", "(problem, answer)"),
+    ("worths", "worth", "(problem, paper)"),
+    ("flattening", "flattened", "(problem, paper)"),
+    ("unsplitting", "unsplit", "(problem, paper)"),
+    ("besides", "beside_papers", "(left, right, left_paper, right_paper)"),
+    ("listings", "judge_listing", "(problem, points, complete, paper)"),
+    ("papertexts", "paper_text", "(paper)"),
+    ("papertexts", "read_paper", "(text)"),
+    ("answertexts", "answer_text", "(answer)"),
+    ("answertexts", "read_answer", "(text)"),
+    ("heldsets", "held_sets", "(node)"),
+    ("heldsets", "repaired", "(node, wanted)"),
+    ("heldsets", "held_path", "(node, first, last)"),
 )
 METHODS = (
     ("fracs", "Frac", "over", "(self, other)"),
@@ -87,13 +104,29 @@ METHODS = (
     ("answers", "Answer", "best", "(totals, point, paper)"),
     ("answers", "Answer", "empty", "(paper)"),
     ("answers", "Answer", "endless", "(at, totals, point, ray, paper)"),
+    ("factors", "Factors", "solve_row", "(self, row)"),
+    ("factors", "Factors", "solve_column", "(self, column)"),
+    ("factors", "Factors", "replaced", "(self, at, row)"),
+    ("tables", "Table", "coordinates", "(self, row)"),
+    ("tables", "Table", "entry", "(self, at)"),
+    ("tables", "Table", "stage_entry", "(self, stage)"),
+    ("tables", "Table", "column", "(self, at)"),
+    ("tables", "Table", "side", "(self, at)"),
+    ("tables", "Table", "end", "(self, at)"),
+    ("tables", "Table", "corner", "(self)"),
+    ("tables", "Table", "value", "(self, at)"),
+    ("tables", "Table", "vector", "(self)"),
+    ("tables", "Table", "outside", "(self)"),
+    ("tables", "Table", "helpers", "(self, at)"),
+    ("tables", "Table", "best_helper", "(self, at)"),
+    ("tables", "Table", "exchanged", "(self, out, into)"),
 )
 STATIC = (("fracs", "Frac", "read"), ("tall", "Tall", "plain"), ("tall", "Tall", "far"),
           ("answers", "Answer", "told"), ("answers", "Answer", "best"),
           ("answers", "Answer", "empty"), ("answers", "Answer", "endless"))
 PROPERTIES = (("fracs", "Frac", "is_whole"), ("problems", "Problem", "spread"),
-              ("problems", "Problem", "assignments"))
-GENERATORS = (("paperforms", "paper_nodes"),)
+              ("problems", "Problem", "assignments"), ("factors", "Factors", "determinant"))
+GENERATORS = (("paperforms", "paper_nodes"), ("heldsets", "held_sets"))
 
 
 def found(module, name):
