@@ -38,7 +38,7 @@ def read_kind(line):
     return "endless", int(figure)
 
 
-def read_row(lines, at, name):
+def read_numbers(lines, at, name):
     """Return the numbers that a line of this name tells."""
     if at >= len(lines):
         raise BadText(at)
@@ -63,7 +63,7 @@ def read_answer(text):
     """Return the answer that a text tells; the answer need not be right."""
     lines = text.split("\n")
     kind, at = read_kind(lines[0])
-    rows = [read_row(lines, line, name) for line, name in enumerate(ROWS[kind], 1)]
+    rows = [read_numbers(lines, line, name) for line, name in enumerate(ROWS[kind], 1)]
     last = len(rows) + 1
     check_last_lines(lines, last)
     paper = read_paper(lines[last].removeprefix("paper "))

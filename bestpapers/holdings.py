@@ -56,7 +56,7 @@ class Holding:
             self._stages.append(self.inverse.shares(row))
         return self._stages[stage]
 
-    def sides(self):
+    def held_sides(self):
         """Return the tuple of the sides of the held items."""
         if self._sides is None:
             signs = [0] * len(self.chosen)
@@ -79,7 +79,7 @@ class Holding:
     def corner(self):
         """Return two lists, the far and the plain parts of the corner, times the base."""
         if self._corner is None:
-            ends = [self.end(at, side) for at, side in zip(self.chosen, self.sides())]
+            ends = [self.end(at, side) for at, side in zip(self.chosen, self.held_sides())]
             far = self.inverse.solved([end[0] for end in ends])
             self._corner = (far, self.inverse.solved([end[1] for end in ends]))
         return self._corner
@@ -112,7 +112,7 @@ class Holding:
         """Return the places in chosen of the held items that can help an item."""
         miss = self.miss(at)
         found = []
-        for place, side in enumerate(self.sides()):
+        for place, side in enumerate(self.held_sides()):
             lifting = shares[place] if side == "low" else -shares[place]
             if lifting * miss < 0 and not self.wholes.is_fixed(self.chosen[place]):
                 found.append(place)
@@ -140,7 +140,7 @@ class Holding:
         found = []
         least = (0, 1)
         for place in rivals:
-            cost = costs[place] if self.sides()[place] == "low" else -costs[place]
+            cost = costs[place] if self.held_sides()[place] == "low" else -costs[place]
             help_of = abs(shares[place])
             more = cost * least[1] - least[0] * help_of
             if not found or more < 0:

@@ -7,9 +7,9 @@ class Inverse:
     """What n independent rows of integers make of other rows; it never changes.
 
     The numbers of line j of the grid, divided by the base, tell how often each of
-    the n rows is needed for the row that has 1 at j and 0 elsewhere. The base times
-    the sign is the determinant of the rows. So all numbers stay whole, and every
-    division below leaves nothing over.
+    the n rows is needed for the row that has 1 at j and 0 elsewhere. The base is
+    above zero; times the turn, 1 or -1, it is the determinant of the rows. So all
+    numbers stay whole, and every division below leaves nothing over.
     """
 
     def __init__(self, grid, base, turn):

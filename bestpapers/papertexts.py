@@ -59,7 +59,7 @@ def read_reason(words):
     return ("split", variable, k, low_prices, words.take_row())
 
 
-def read_line(words):
+def read_floor_line(words):
     """Return the line of a "floors" that the next words tell."""
     multipliers = words.take_row()
     return (multipliers, words.take_row())
@@ -71,7 +71,7 @@ def read_head(words):
     if form == "empty":
         return (form, words.take_row())
     if form == "floors":
-        return (form, tuple([read_line(words) for _ in range(words.take_length())]))
+        return (form, tuple([read_floor_line(words) for _ in range(words.take_length())]))
     if form == "listed":
         return (form, words.take_integer())
     if form == "branch":

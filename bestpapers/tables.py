@@ -47,7 +47,7 @@ class Table:
 
     def side(self, at):
         """Return the side at which an item is held, "low" or "high"."""
-        return self.holding.sides()[self._place(at)]
+        return self.holding.held_sides()[self._place(at)]
 
     def end(self, at):
         """Return the end at which an item is held, a Tall."""

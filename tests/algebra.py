@@ -89,3 +89,22 @@ def some_mixed(chance, most=4, rows=4, aims=2, whole=0):
     wishes = [Aim(chance.choice(("min", "max")), some_row(chance, n), chance.randint(-2, 2))
               for _ in range(chance.randint(0, aims))]
     return Problem(items, parts, wishes)
+
+
+def solved(rows, rights):
+    """The numbers with which independent rows have these sums, as Fractions."""
+    n = len(rows)
+    lines = [plains(row) + [plain(right)] for row, right in zip(rows, rights)]
+    for at in range(n):
+        pivot = next(k for k in range(at, n) if lines[k][at])
+        lines[at], lines[pivot] = lines[pivot], lines[at]
+        lines[at] = [number / lines[at][at] for number in lines[at]]
+        for k in range(n):
+            if k != at and lines[k][at]:
+                part = lines[k][at]
+                lines[k] = [a - part * b for a, b in zip(lines[k], lines[at])]
+    return [line[n] for line in lines]
+
+
+def fracs(numbers):
+    return tuple(Frac(number.numerator, number.denominator) for number in numbers)

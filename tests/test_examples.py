@@ -4,12 +4,15 @@ import unittest
 
 from bestpapers.answers import Answer
 from bestpapers.changes import with_right
+from bestpapers.cuts import rounded_cut, split_cut
+from bestpapers.dual import dual_run
 from bestpapers.errors import BadNumber
 from bestpapers.fracs import Frac
 from bestpapers.judges import judge
 from bestpapers.nodes import Node
 from bestpapers.problems import Problem
 from bestpapers.rows import Aim, Row
+from bestpapers.solving import solve
 from bestpapers.tall import Tall
 from bestpapers.variables import Variable
 from bestpapers.worths import worth
@@ -44,6 +47,40 @@ class Examples(unittest.TestCase):
         p = Problem([Variable("x", 0, 3), Variable("y", 0, 3)], [Row("r", [1, 1], ">=", 2)], [Aim("min", [1, 1])])
         paper = ("floors", (((), (1,)),))
         self.assertEqual([str(worth(p, paper)), str(worth(with_right(p, "r", 3), paper))], ["2", "3"])
+
+    def test_solving(self):
+        p = Problem([Variable("x", 0, 3), Variable("y", 0, 3)], [Row("r", [1, 1], ">=", 2)], [Aim("min", [1, 1])])
+        answer = solve(p)
+        found = [answer.kind, [str(x) for x in answer.totals], [str(x) for x in answer.point]]
+        self.assertEqual(found, ["told", ["2"], ["0", "2"]])
+
+    def test_solving_with_whole_variables(self):
+        answer = solve(self.halves())
+        found = [answer.kind, [str(x) for x in answer.totals], [str(x) for x in answer.point]]
+        self.assertEqual(found, ["told", ["1"], ["0", "1"]])
+
+    def test_solving_without_end(self):
+        u = Problem([Variable("x"), Variable("y")], [Row("r", [1, -1], "<=", 1)], [Aim("max", [1, 0])])
+        answer = solve(u)
+        found = [answer.kind, answer.at, answer.totals, [str(x) for x in answer.point]]
+        self.assertEqual(found, ["endless", 0, (), ["0", "0"]])
+
+    def test_dual_run(self):
+        p = Problem([Variable("x", 0, 3), Variable("y", 0, 3)], [Row("r", [1, 1], ">=", 2)], [Aim("min", [1, 1])])
+        self.assertEqual(dual_run(Node(p)).path, ((0, 1), (0, 2)))
+
+    def halves(self):
+        return Problem([Variable("x", 0, 3, whole=True), Variable("y", 0, 3, whole=True)],
+                       [Row("r", [2, 2], "<=", 3)], [Aim("max", [1, 1])])
+
+    def test_split_cut(self):
+        coefficients, right, reason = split_cut(dual_run(Node(self.halves())).table, 1)
+        found = [[str(x) for x in coefficients], str(right), reason[0], reason[1], reason[2]]
+        self.assertEqual(found, [["0", "-2"], "-2", "split", 1, 1])
+
+    def test_rounded_cut(self):
+        coefficients, right, reason = rounded_cut(Node(self.halves()), [Frac(-1, 2)])
+        self.assertEqual([[str(x) for x in coefficients], str(right), reason[0]], [["-1", "-1"], "-1", "rounded"])
 
 
 if __name__ == "__main__":

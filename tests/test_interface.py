@@ -35,6 +35,8 @@ CLASSES = (
     ("tables", "Table", "(node, chosen)",
      ["coordinates", "entry", "stage_entry", "column", "side", "end", "corner", "value", "vector",
       "outside", "helpers", "best_helper", "exchanged"]),
+    ("dual", "Run", None, []),
+    ("below", "Climb", None, []),
 )
 FUNCTIONS = (
     ("itemrows", "item_row", "(problem, at)"),
@@ -81,6 +83,19 @@ FUNCTIONS = (
     ("heldsets", "held_sets", "(node)"),
     ("heldsets", "repaired", "(node, wanted)"),
     ("heldsets", "held_path", "(node, first, last)"),
+    ("purifying", "purified", "(problem, point)"),
+    ("mixtures", "mixture", "(problem, point)"),
+    ("bounds", "figure_bound", "(problem)"),
+    ("dual", "dual_run", "(node, start=None)"),
+    ("dual", "empty_prices", "(run)"),
+    ("floorlines", "floor_lines", "(table, many)"),
+    ("below", "below_run", "(problem, chosen, sides)"),
+    ("corners", "by_corners", "(problem)"),
+    ("weighing", "weights", "(problem)"),
+    ("weighing", "weighed", "(problem, numbers)"),
+    ("cuts", "split_cut", "(table, variable)"),
+    ("cuts", "rounded_cut", "(node, prices)"),
+    ("solving", "solve", "(problem, *, cuts=0, start=None)"),
 )
 METHODS = (
     ("fracs", "Frac", "over", "(self, other)"),

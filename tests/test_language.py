@@ -301,6 +301,11 @@ class Language(unittest.TestCase):
         for name in set(marked) & (set(plain) | assigned_attributes() | METHODS):
             self.refuse("L5 Properties or L5 Static", PACKAGE, 0, name)
 
+    def test_no_name_is_a_method_and_an_attribute(self):
+        methods = {method.name for path in source_files() for method in methods_of(parsed(path))}
+        for name in methods & assigned_attributes():
+            self.refuse("L18", PACKAGE, 0, name)
+
     def test_generators(self):
         for path in source_files():
             for function in functions_of(parsed(path)):

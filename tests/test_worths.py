@@ -14,6 +14,7 @@ from bestpapers.variables import Variable
 from bestpapers.worths import worth
 from tests.algebra import plain
 from tests.helpers import fault, shape
+from tests.made_papers import accepted_paper
 from tests.test_judging import some_paper, some_problem
 from tests.whole_papers import feasible_points, full_paper
 
@@ -301,6 +302,18 @@ class Claims(unittest.TestCase):
             self.assertTrue(found == "empty" or found >= targets[0])
         else:
             self.assertTrue(found == "empty" or found <= -targets[0])
+
+    def test_not_worse_than_the_first_target(self):
+        chance = random.Random(392)
+        for _ in range(150):
+            problem = some_problem(chance)
+            if problem.aims:
+                points = feasible_points(problem)
+                targets, paper = accepted_paper(chance, problem, points)
+                self.shown(problem, points, paper, targets)
+                found = worth(problem, paper)
+                told = described(problem, paper)
+                self.assertEqual(found if told in (None, "empty") else plain(found), told)
 
     def changed(self, chance, problem):
         for row in problem:
