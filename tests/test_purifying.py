@@ -40,7 +40,8 @@ def some_points(chance, problem):
         return []
     some = [chance.choice(found), middle(found), middle([chance.choice(found) for _ in range(2)])]
     for ray in extreme_rays(problem)[:3]:
-        some.append(tuple(a + chance.randint(1, 3) * b for a, b in zip(some[-1], ray)))
+        times = chance.randint(1, 3)
+        some.append(tuple(a + times * b for a, b in zip(some[-1], ray)))
     return some
 
 
@@ -165,7 +166,7 @@ class Mixtures(unittest.TestCase):
     def test_many_problems(self):
         chance = random.Random(50)
         lengths = []
-        for _ in range(150):
+        for _ in range(400):
             problem = some_mixed(chance, 3, 3, whole=2)
             for point in some_points(chance, problem):
                 self.assertTrue(is_feasible(relaxed(problem), point))
