@@ -24,13 +24,17 @@ def first_broken(problem, point):
 
 
 class Part:
-    """A node of the search, how the run in it ended, and then the place of its halves."""
+    """A node of the search, how the run in it ended, and then the place of its halves.
+
+    A part that holds one point alone may have the index at which the point is listed.
+    """
 
     def __init__(self, holding, stuck):
         self.holding = holding
         self.stuck = stuck
         self.place = None
         self.halves = ()
+        self.listed = None
         _, plain = holding.corner()
         sums = [whole_dot(row, plain) for row in holding.wholes.stages]
         # Stages with their scales, without their constants: they compare as vectors do.
@@ -41,6 +45,11 @@ class Part:
         node = self.holding.node.half(variable, k, side)
         _, holding, stuck = walked(self.holding.inside(node))
         return Part(holding, stuck)
+
+    def halve(self, variable, k):
+        """Find the low and the high half at k of a whole variable."""
+        self.place = (variable, k)
+        self.halves = tuple([self.half(variable, k, side) for side in ("low", "high")])
 
 
 def explored(root):
@@ -56,10 +65,8 @@ def explored(root):
         if variable is None:
             best = part
             continue
-        k = point[variable].floor()
-        part.place = (variable, k)
-        low, high = [part.half(variable, k, side) for side in ("low", "high")]
-        part.halves = (low, high)
+        part.halve(variable, point[variable].floor())
+        low, high = part.halves
         # The half that may hold the better points is looked at first.
         waiting.extend([low, high] if high.rank < low.rank else [high, low])
     return best
@@ -75,6 +82,8 @@ def lines_needed(part, best, most):
 
 def part_head(part, best, most):
     """Return the head of the paper of a part."""
+    if part.listed is not None:
+        return ("listed", part.listed)
     if part.place is not None:
         variable, k = part.place
         return ("branch", variable, k)

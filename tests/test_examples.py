@@ -10,6 +10,7 @@ from bestpapers.errors import BadNumber
 from bestpapers.fracs import Frac
 from bestpapers.judges import judge
 from bestpapers.nodes import Node
+from bestpapers.presolving import presolve
 from bestpapers.problems import Problem
 from bestpapers.rows import Aim, Row
 from bestpapers.solving import solve
@@ -81,6 +82,11 @@ class Examples(unittest.TestCase):
     def test_rounded_cut(self):
         coefficients, right, reason = rounded_cut(Node(self.halves()), [Frac(-1, 2)])
         self.assertEqual([[str(x) for x in coefficients], str(right), reason[0]], [["-1", "-1"], "-1", "rounded"])
+
+    def test_presolving(self):
+        w = Problem([Variable("x"), Variable("y", 2, 2)], [Row("a", [2, 0], "<=", 6), Row("b", [1, 1], "<=", 9)],
+                    [Aim("min", [1, 0])])
+        self.assertEqual(presolve(w).steps, (("single", "a", "x"), ("fixed", "y"), ("single", "b", "x")))
 
 
 if __name__ == "__main__":

@@ -37,6 +37,11 @@ CLASSES = (
       "outside", "helpers", "best_helper", "exchanged"]),
     ("dual", "Run", None, []),
     ("below", "Climb", None, []),
+    ("presolving", "Trace", None, ["point_in", "point_back", "back"]),
+    ("sessions", "Session", "(problem)",
+     ["cuts", "use_cuts", "put_rows", "drop_row", "move_right", "move_coefficient", "move_ends", "make_whole",
+      "turn_aims", "solve"] + operators("setitem")),
+    ("webs", "Web", "(places, edges, supplies)", []),
 )
 FUNCTIONS = (
     ("itemrows", "item_row", "(problem, at)"),
@@ -96,6 +101,16 @@ FUNCTIONS = (
     ("cuts", "split_cut", "(table, variable)"),
     ("cuts", "rounded_cut", "(node, prices)"),
     ("solving", "solve", "(problem, *, cuts=0, start=None)"),
+    ("firstpoints", "first_points", "(problem, many)"),
+    ("allpoints", "by_points", "(problem)"),
+    ("presolving", "presolve", "(problem)"),
+    ("presolved", "solve_presolved", "(problem, *, cuts=0)"),
+    ("ranges", "right_range", "(table, name)"),
+    ("ranges", "row_prices", "(table, name)"),
+    ("ranges", "aim_range", "(table, aim, name)"),
+    ("sweeps", "sweep", "(problem, name, low, high)"),
+    ("clashes", "clash", "(problem)"),
+    ("mirrors", "mirror", "(problem)"),
 )
 METHODS = (
     ("fracs", "Frac", "over", "(self, other)"),
@@ -135,12 +150,25 @@ METHODS = (
     ("tables", "Table", "helpers", "(self, at)"),
     ("tables", "Table", "best_helper", "(self, at)"),
     ("tables", "Table", "exchanged", "(self, out, into)"),
+    ("presolving", "Trace", "point_in", "(self, point)"),
+    ("presolving", "Trace", "point_back", "(self, point)"),
+    ("presolving", "Trace", "back", "(self, answer)"),
+    ("sessions", "Session", "use_cuts", "(self, many)"),
+    ("sessions", "Session", "put_rows", "(self, *rows)"),
+    ("sessions", "Session", "drop_row", "(self, name)"),
+    ("sessions", "Session", "move_right", "(self, name, right)"),
+    ("sessions", "Session", "move_coefficient", "(self, name, variable, number)"),
+    ("sessions", "Session", "move_ends", "(self, name, low, high)"),
+    ("sessions", "Session", "make_whole", "(self, name, whole)"),
+    ("sessions", "Session", "turn_aims", "(self, aims)"),
+    ("sessions", "Session", "solve", "(self)"),
 )
 STATIC = (("fracs", "Frac", "read"), ("tall", "Tall", "plain"), ("tall", "Tall", "far"),
           ("answers", "Answer", "told"), ("answers", "Answer", "best"),
           ("answers", "Answer", "empty"), ("answers", "Answer", "endless"))
 PROPERTIES = (("fracs", "Frac", "is_whole"), ("problems", "Problem", "spread"),
-              ("problems", "Problem", "assignments"), ("factors", "Factors", "determinant"))
+              ("problems", "Problem", "assignments"), ("factors", "Factors", "determinant"),
+              ("sessions", "Session", "cuts"))
 GENERATORS = (("paperforms", "paper_nodes"), ("heldsets", "held_sets"))
 
 

@@ -28,7 +28,7 @@ METHODS = set(
     "reverse rfind rjust rpartition rsplit rstrip setdefault split splitlines startswith strip "
     "update upper values zfill bit_length title capitalize swapcase casefold center expandtabs "
     "removeprefix removesuffix rindex isascii isdecimal isnumeric istitle isidentifier "
-    "isprintable translate from_iterable add discard".split()
+    "isprintable translate from_iterable add discard setter".split()
 )
 DOUBLE = set(
     "init eq repr str len enter exit call iter lt le gt ge ne add sub mul floordiv mod pow and "
@@ -120,14 +120,24 @@ def methods_of(tree):
     ]
 
 
+def properties_with_setters():
+    """All names of properties that may be assigned."""
+    return {
+        mark.value.id
+        for path in source_files()
+        for method in methods_of(parsed(path))
+        for mark in method.decorator_list if isinstance(mark, ast.Attribute)
+    }
+
+
 def assigned_attributes():
-    """All names of attributes that the package assigns."""
+    """All names of attributes, not of properties, that the package assigns."""
     return {
         node.attr
         for path in source_files()
         for node in ast.walk(parsed(path))
         if isinstance(node, ast.Attribute) and isinstance(node.ctx, ast.Store)
-    }
+    } - properties_with_setters()
 
 
 def class_names():
