@@ -100,10 +100,8 @@ def aim_range(table, aim, name):
     bounds = Bounds()
     for at, number in zip(table.chosen, entry):
         column = table.column(at)
-        low, high = table.node.box_of(at)
-        is_fixed = low is not None and low == high
         # An earlier stage that is not zero decides the side, whatever this aim says.
-        if is_fixed or any([bool(earlier) for earlier in column[:aim]]):
+        if table.holding.wholes.is_fixed(at) or any([bool(earlier) for earlier in column[:aim]]):
             continue
         sign = 1 if table.side(at) == "low" else -1
         bounds.tell(sign * column[aim], -sign * turn * number)

@@ -97,7 +97,7 @@ class Remains:
             side = "low" if number > 0 else "high"
             mark = self.marks[side][at]
             box_end = boxes[at][0 if side == "low" else 1]
-            if number and mark is not None and is_better(self.ends[side][at], box_end, side):
+            if mark is not None and is_better(self.ends[side][at], box_end, side):
                 prices[mark] = abs(number)
         return tuple(prices)
 

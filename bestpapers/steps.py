@@ -81,7 +81,7 @@ def fixed_step(remains):
     if problem.n < 2:
         return False
     for at, variable in enumerate(problem.variables):
-        if variable.low is not None and variable.low == variable.high:
+        if variable.low == variable.high:
             remains.steps.append(("fixed", variable.name))
             remains.drop_variable(at)
             return True
@@ -112,10 +112,9 @@ def slack_step(remains):
 
 def times_of(row, other):
     """Return the number by which the coefficients of other are multiplied in a row, or None."""
-    used = places_used(other)
-    if not used or not places_used(row):
-        return None
-    times = row.coefficients[used[0]].over(other.coefficients[used[0]])
+    # Rows of zeros are taken out before, so the other row has a coefficient.
+    at = places_used(other)[0]
+    times = row.coefficients[at].over(other.coefficients[at])
     left = reduced(row.coefficients, times, other.coefficients)
     return None if any([bool(number) for number in left]) else times
 
@@ -194,7 +193,7 @@ def implied_end(problem, row_at, at, side):
 def is_step(variable, end, side):
     """Tell whether an implied end is missing so far, or makes the box of a whole variable narrower."""
     own = variable.low if side == "low" else variable.high
-    if own is None or not variable.whole:
+    if not variable.whole:
         return own is None
     return is_better(Frac(end.ceiling() if side == "low" else end.floor()), own, side)
 

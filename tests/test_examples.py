@@ -1,10 +1,12 @@
-"""The sessions of the document's examples, as far as their modules are written."""
+"""The sessions of the document's examples."""
 
 import unittest
 
 from bestpapers.answers import Answer
 from bestpapers.changes import with_right
+from bestpapers.cheapest import cheapest_flow
 from bestpapers.cuts import rounded_cut, split_cut
+from bestpapers.desks import Desk
 from bestpapers.dual import dual_run
 from bestpapers.errors import BadNumber
 from bestpapers.fracs import Frac
@@ -16,6 +18,7 @@ from bestpapers.rows import Aim, Row
 from bestpapers.solving import solve
 from bestpapers.tall import Tall
 from bestpapers.variables import Variable
+from bestpapers.webs import Web
 from bestpapers.worths import worth
 from tests.helpers import fault
 
@@ -87,6 +90,16 @@ class Examples(unittest.TestCase):
         w = Problem([Variable("x"), Variable("y", 2, 2)], [Row("a", [2, 0], "<=", 6), Row("b", [1, 1], "<=", 9)],
                     [Aim("min", [1, 0])])
         self.assertEqual(presolve(w).steps, (("single", "a", "x"), ("fixed", "y"), ("single", "b", "x")))
+
+    def test_desks(self):
+        found = Desk().run("var x 0 4 whole\nvar y 0 4\nrow r 2*x + 2*y <= 5\nmax 1*x + 1*y\nsolve\nundo\nsolve")
+        self.assertEqual(found, ["ok", "ok", "ok", "ok", "told 5/2 at 0 5/2", "ok", "told at 0 0"])
+
+    def test_webs(self):
+        web = Web(3, [(0, 1, 0, 2, 1), (1, 2, 0, None, 1), (0, 2, 0, 5, 3)], [3, 0, -3])
+        answer = cheapest_flow(web)
+        found = [answer.kind, [str(x) for x in answer.totals], [str(x) for x in answer.point]]
+        self.assertEqual(found, ["best", ["7"], ["2", "2", "1"]])
 
 
 if __name__ == "__main__":

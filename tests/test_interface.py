@@ -42,6 +42,9 @@ CLASSES = (
      ["cuts", "use_cuts", "put_rows", "drop_row", "move_right", "move_coefficient", "move_ends", "make_whole",
       "turn_aims", "solve"] + operators("setitem")),
     ("webs", "Web", "(places, edges, supplies)", []),
+    ("desks", "Desk", "()",
+     ["do", "run", "present", "kept_paper", "answer", "kept", "journal"] + operators("iter")),
+    ("trials", "Trial", "(desk)", operators("enter", "exit")),
 )
 FUNCTIONS = (
     ("itemrows", "item_row", "(problem, at)"),
@@ -111,6 +114,23 @@ FUNCTIONS = (
     ("sweeps", "sweep", "(problem, name, low, high)"),
     ("clashes", "clash", "(problem)"),
     ("mirrors", "mirror", "(problem)"),
+    ("webproblems", "web_problem", "(web)"),
+    ("webproblems", "flow_problem", "(web, source, sink)"),
+    ("webproblems", "road_problem", "(web, source, goal)"),
+    ("webproblems", "pairing_problem", "(costs)"),
+    ("webproblems", "transport_problem", "(supplies, demands, costs)"),
+    ("roads", "heights", "(web)"),
+    ("roads", "shortest_road", "(web, source, goal)"),
+    ("greatest", "greatest_flow", "(web, source, sink)"),
+    ("greatest", "bar", "(web, source, sink)"),
+    ("cheapest", "cheapest_flow", "(web)"),
+    ("pairings", "cheapest_pairing", "(costs)"),
+    ("transports", "cheapest_transport", "(supplies, demands, costs)"),
+    ("settling", "settled", "(problem, answer)"),
+    ("trials", "run_whole", "(desk, text)"),
+    ("trials", "try_out", "(desk, text)"),
+    ("trials", "replayed", "(journal)"),
+    ("reports", "report", "(problem, answer)"),
 )
 METHODS = (
     ("fracs", "Frac", "over", "(self, other)"),
@@ -162,13 +182,18 @@ METHODS = (
     ("sessions", "Session", "make_whole", "(self, name, whole)"),
     ("sessions", "Session", "turn_aims", "(self, aims)"),
     ("sessions", "Session", "solve", "(self)"),
+    ("desks", "Desk", "do", "(self, line)"),
+    ("desks", "Desk", "run", "(self, text)"),
+    ("desks", "Desk", "present", "(self)"),
+    ("desks", "Desk", "kept_paper", "(self, name)"),
 )
 STATIC = (("fracs", "Frac", "read"), ("tall", "Tall", "plain"), ("tall", "Tall", "far"),
           ("answers", "Answer", "told"), ("answers", "Answer", "best"),
           ("answers", "Answer", "empty"), ("answers", "Answer", "endless"))
 PROPERTIES = (("fracs", "Frac", "is_whole"), ("problems", "Problem", "spread"),
               ("problems", "Problem", "assignments"), ("factors", "Factors", "determinant"),
-              ("sessions", "Session", "cuts"))
+              ("sessions", "Session", "cuts"), ("desks", "Desk", "answer"), ("desks", "Desk", "kept"),
+              ("desks", "Desk", "journal"))
 GENERATORS = (("paperforms", "paper_nodes"), ("heldsets", "held_sets"))
 
 

@@ -356,6 +356,28 @@ class Language(unittest.TestCase):
                 if getattr(node.func, "attr", "") == "sort":
                     self.refuse("L5 Operators", path, node.lineno, "sort")
 
+    def test_what_is_sorted_is_plain(self):
+        """Classes with an order are in the package, so only integers and strings are sorted."""
+        for path in source_files():
+            for node in ast.walk(parsed(path)):
+                if isinstance(node, ast.Call) and getattr(node.func, "id", "") in ("sorted", "min", "max"):
+                    part = node.args[0]
+                    plain = isinstance(part, ast.ListComp) and isinstance(part.elt, ast.Call)
+                    if not plain or getattr(part.elt.func, "id", "") not in ("int", "str", "len", "ord"):
+                        self.refuse("L5 Operators", path, node.lineno)
+
+    def test_exits(self):
+        """An __exit__ only gives attributes other values, where an error is on its way."""
+        for path in source_files():
+            for method in methods_of(parsed(path)):
+                if method.name != "__exit__":
+                    continue
+                for node in ast.walk(method):
+                    if isinstance(node, (ast.Call, ast.BinOp, ast.Subscript, ast.Raise, ast.For, ast.While)):
+                        self.refuse("L6 With", path, node.lineno)
+                    if isinstance(node, ast.If) and ast.unparse(node.test) not in ("kind is None", "kind is not None"):
+                        self.refuse("L6 With", path, node.lineno)
+
     def test_handlers(self):
         for path in source_files():
             for node in ast.walk(parsed(path)):
